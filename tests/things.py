@@ -1,0 +1,71 @@
+"""Things of any kind that a caller may hand in, for the tests."""
+
+LAST = 10 ** 9
+FORTY = 10 ** 40 - 1
+
+
+def nested(wrap, core, times=39):
+    """core, wrapped as many times."""
+    thing = core
+    for _ in range(times):
+        thing = wrap(thing)
+    return thing
+
+
+TRUTHS = [True, False]
+
+# Whole numbers that are no place.
+FAR_NUMBERS = [-1, -2, LAST + 1, 2 * LAST, FORTY, -FORTY]
+
+# Nothing here is a whole number, a stretch, a colour or a stroke, nor a tuple or list of strokes but () and [].
+NO_NUMBERS = TRUTHS + [
+    None, "", "0", "1", " ", "-", "Red", "None", (), [], {}, (0,), [0], (0, 0, 0, 0), [0, 1], [0, 1, "red"], {0: 1},
+    {0: 0, 1: 0}, {0: 0, 1: 0, 2: "red"}, {"low": 0, "high": 1, "colour": "red"}, (None,), (None, None),
+    (None, None, None), ((0, 1), "red"), ((0, 1, "red"), (0, 1, "reD")), [None], [[]], [{}], ({},), ("red",), ["red"],
+    nested(lambda thing: (thing,), 0), nested(lambda thing: [thing], 0), nested(lambda thing: {0: thing}, 0),
+    nested(lambda thing: (thing, thing)[:1], (0, 1, "red")), (0,) * 10000, [0] * 9999, "A" * 10000,
+    {number: number for number in range(5000)},
+]
+
+# Nor is anything here a place.
+ANYTHING = NO_NUMBERS + FAR_NUMBERS
+
+COLOURS = ["a", "z", "m", "red", "blue", "abcdefg", "abcdefgh", "zzzzzzzz", "az"]
+
+# Texts and other things that are no colour.
+NO_COLOURS = ANYTHING + [
+    0, 1, "abcdefghi", "aaaaaaaaa", "a" * 10000, "A", "RED", "reD", "Red", "red ", " red", "r d", "red1", "1", "_",
+    "re-d", "re/d", "red\n", "\n", "\t", "`", "{", "@", "[", "\u00e9", "\u00df", "\u00aa", "r\u00e9d", "\u0430", "\uff41",
+    "\u0131", "\u00b2", "\ud800", ("a",), ["a"], ("r", "e", "d"), {"red": 1}, b"red",
+]
+
+STRETCHES = [(0, 0), (0, 1), (0, LAST), (1, 1), (3, 5), (7, LAST), (LAST, LAST), (LAST - 1, LAST)]
+
+NO_PLACES = ANYTHING
+
+# Each is a tuple or a list, near to a stretch, that is none.
+NEAR_STRETCHES = [
+    (), (0,), (0, 1, 2), (0, 1, "red"), [0, 1], [0, 0], (1, 0), (LAST, 0), (LAST, LAST - 1), ((0, 1),), ((0, 1), (0, 1)),
+    "01", "ab", {0: 0, 1: 1}, (0, 1, 1, 0), [(0, 1)],
+] + [(0, thing) for thing in NO_PLACES] + [(thing, LAST) for thing in NO_PLACES] + [(thing, thing) for thing in NO_PLACES]
+
+NO_STRETCHES = ANYTHING + NEAR_STRETCHES + [0, 1, LAST]
+
+STROKES = [(low, high, colour) for low, high in STRETCHES for colour in COLOURS]
+
+NEAR_STROKES = [
+    (), (0,), (0, 1), (0, "red"), ("red",), (0, 1, "red", "red"), (0, 1, "red", 0), (0, 1, "red", None), [0, 1, "red"],
+    (1, 0, "red"), (LAST, LAST - 1, "red"), (0, "red", 1), ("red", 0, 1), ((0, 1), "red"), (0, (1, "red")),
+    "0 1 red", "abc", {0: 0, 1: 1, 2: "red"}, (0, 1, ("red",)), (0, 1, ["red"]),
+] + [(0, 1, thing) for thing in NO_COLOURS] \
+  + [(0, thing, "red") for thing in NO_PLACES] \
+  + [(thing, LAST, "red") for thing in NO_PLACES] \
+  + [(thing, thing, "red") for thing in NO_PLACES]
+
+# A book may be made of each of these, but none is a stroke.
+BOOK_PARTS = [(), [], ((0, 1, "red"),), [(0, 1, "red")], ((0, 1, "red"), (0, 1, "red")), [(0, 1, "red"), (2, 3, "blue")]]
+
+NO_STROKES = ANYTHING + NEAR_STROKES + BOOK_PARTS + [0, 1, LAST, (0, 1), "red"]
+
+# No book may be made of any of these.
+NO_BOOKS = [thing for thing in NO_STROKES if thing not in BOOK_PARTS]
