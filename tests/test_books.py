@@ -5,7 +5,7 @@ import unittest
 
 from pastlay.books import Book
 from pastlay.errors import BadStroke, NoSlot, NoStroke
-from tests import things
+from tests import cases, things
 
 LAST = things.LAST
 RED = (0, 9, "red")
@@ -18,7 +18,7 @@ def written(strokes):
     return " / ".join(str(low) + " " + str(high) + " " + colour for low, high, colour in strokes)
 
 
-class BookCase(unittest.TestCase):
+class BookCase(cases.Case):
     def assert_is(self, book, strokes):
         """All that a book tells is just what these strokes tell."""
         strokes = tuple(strokes)
@@ -30,16 +30,6 @@ class BookCase(unittest.TestCase):
         self.assertIs(Book(strokes) == book, True)
         self.assertIs(book != Book(strokes), False)
         self.assertIs(book == Book(strokes + (RED,)), False)
-
-    def assert_refused(self, refusal, act, *given):
-        """The very refusal comes, not one right above or beneath it."""
-        try:
-            act(*given)
-        except ValueError as caught:
-            if type(caught) is not refusal:
-                self.fail(f"{type(caught).__name__} for {repr(given)[:200]}")
-        else:
-            self.fail(f"no refusal for {repr(given)[:200]}")
 
 
 class Made(BookCase):

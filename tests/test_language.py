@@ -13,6 +13,12 @@ FUNCTIONS = {
         "is_place": "thing", "is_stretch": "thing", "is_colour": "thing", "is_stroke": "thing", "joined": "some",
         "both": "some others", "apart": "some others",
     },
+    "writing": {"read": "text"},
+    "seeing": {
+        "giver": "book place * moment", "picture": "book * moment", "colours": "book * moment",
+        "stack": "book place * moment", "hidden": "book * moment",
+    },
+    "looks": {"are_looks": "book thing", "shown": "book look"},
 }
 METHODS = {
     "Book": {
@@ -38,7 +44,11 @@ def tree_of(name):
 
 
 def names_of(function):
-    return " ".join(argument.arg for argument in function.args.args)
+    """The names of the arguments; those behind the * are handed in by their names alone."""
+    names = [argument.arg for argument in function.args.args]
+    if function.args.kwonlyargs:
+        names += ["*"] + [argument.arg for argument in function.args.kwonlyargs]
+    return " ".join(names)
 
 
 class Language(unittest.TestCase):

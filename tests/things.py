@@ -69,3 +69,17 @@ NO_STROKES = ANYTHING + NEAR_STROKES + BOOK_PARTS + [0, 1, LAST, (0, 1), "red"]
 
 # No book may be made of any of these.
 NO_BOOKS = [thing for thing in NO_STROKES if thing not in BOOK_PARTS]
+
+# None is the moment of all strokes; the book's length and what is above it depend on the book.
+NO_MOMENTS = [thing for thing in ANYTHING if thing is not None] + ["red", (0, 1), (0, 1, "red"), [0], [1], (1,), b"0"]
+
+# Nothing here is a look at any book.
+NO_LOOKS = ANYTHING + [
+    0, 1, LAST, (0, 0), (0, 0, 0, 0), [0, 0, 0], (0, [0, 0]), (0, (0, 0)), ((0, 0, 0),), [(0, 0, 0)], ((0, 0), 0), "000",
+    "0 0 0", (0, 1, 0), (0, LAST, 0), (0, LAST, LAST - 1), (0, 9, "red"), (0, "0", 9), ("0", 0, 9), {0: 0, 1: 0, 2: 0},
+    (None, 0, 0), (0, None, 0), (0, 0, None), (None, None, None), (True, 0, 0), (False, 0, 0), (0, False, 0),
+    (0, 0, True), (0, True, True), (0, False, False), ((0,), 0, 0),
+] + [(thing, 0, LAST) for thing in ANYTHING] \
+  + [(0, thing, LAST) for thing in NO_PLACES] \
+  + [(0, 0, thing) for thing in NO_PLACES] \
+  + [(0, thing, thing) for thing in NO_PLACES]
