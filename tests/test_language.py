@@ -19,6 +19,18 @@ FUNCTIONS = {
         "stack": "book place * moment", "hidden": "book * moment",
     },
     "looks": {"are_looks": "book thing", "shown": "book look"},
+    "wishes": {
+        "is_wish": "thing", "firm": "wish", "wrong": "book wish", "walls": "book wish slot * looks",
+        "gaps": "book wish slot * looks",
+    },
+    "layings": {
+        "is_laying": "book thing", "are_prices": "thing", "laid": "book laying", "numbers": "book laying",
+        "led_over": "book look laying", "is_right": "book wish laying * looks", "broken": "book wish laying * looks",
+        "price_of": "book laying prices", "behind": "book first second", "cut_back": "book laying",
+    },
+    "least": {
+        "runs": "book wish * looks", "table": "book wish prices * looks", "least": "book wish prices * looks",
+    },
 }
 METHODS = {
     "Book": {

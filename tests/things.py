@@ -83,3 +83,59 @@ NO_LOOKS = ANYTHING + [
   + [(0, thing, LAST) for thing in NO_PLACES] \
   + [(0, 0, thing) for thing in NO_PLACES] \
   + [(0, thing, thing) for thing in NO_PLACES]
+
+WISHES = [
+    (), ((0, LAST, "red"),), ((0, LAST, None),), ((0, 0, "a"),), ((LAST, LAST, "abcdefgh"),), ((3, 5, "red"), (6, 9, "red")),
+    ((3, 5, "red"), (6, 9, "blue"), (10, LAST, None)), ((0, 1, None), (2, 3, None), (LAST, LAST, None)),
+    tuple((3 * at, 3 * at + 2, "red") for at in range(12)), tuple((at, at, None) for at in range(12)),
+    ((0, LAST - 1, "z"), (LAST, LAST, "a")),
+]
+
+# What a part of a wish may be told as, but for a colour of None.
+NO_PARTS = [thing for thing in NEAR_STROKES if thing not in [(0, 1, None)]] + ANYTHING
+
+# Nothing here is a wish.
+NO_WISHES = [thing for thing in ANYTHING if thing != ()] + [
+    0, 1, (0, 1, "red"), (0, 1, None), [(0, 1, "red")], [], ["red"], ((0, 1),), ((0, 1, "red"), ()), (((0, 1, "red"),),),
+    ((0, 1, "red"), (0, 1, "red")), ((0, 1, "red"), (0, 1, "blue")), ((0, 1, "red"), (0, 1, None)),
+    ((0, 1, None), (0, 1, None)), ((0, 5, "red"), (5, 9, "red")), ((0, 5, "red"), (3, 3, "red")), ((3, 3, "a"), (0, 5, "b")),
+    ((5, 9, "red"), (0, 1, "red")), ((5, 9, None), (0, 1, None)), ((2, 3, "red"), (0, 1, "red")), ((0, 0, "a"), (0, LAST, "a")),
+    ((0, 1, "red"), (4, 6, "red"), (6, 9, "red")), ((0, 1, "red"), (7, 9, "red"), (4, 6, "red")),
+    ((1, 0, "red"),), ((0, 1, "red"), (5, 4, "red")), ((0, 1, "red"), [2, 3, "red"]), ((0, 1, "red"), None),
+    tuple((at, at, "red") for at in range(13)), tuple((2 * at, 2 * at, None) for at in range(13)),
+    tuple((at, at, "red") for at in range(3000)), ((0, 1, "red"),) * 13, "red", {0: (0, 1, "red")}, {(0, 1): "red"}, b"",
+] + [(thing,) for thing in NO_PARTS] \
+  + [((0, 1, "red"), thing) for thing in NO_PARTS] \
+  + [(thing, (LAST, LAST, "red")) for thing in NO_PARTS[:60]]
+
+# Nothing here is looks at any book.
+NO_LOOKS_AT_ALL = [thing for thing in ANYTHING if thing != ()] + [
+    [], [(0, 0, 0)], 0, 1, (0, 0, 0), ((0, 0, 0),) * 21, ((0, 0, 0), ()), ((0, 0, 0), None), (((0, 0, 0),),), {0: (0, 0, 0)},
+] + [(thing,) for thing in NO_LOOKS[::7]] + [((0, 0, 0), thing) for thing in NO_LOOKS[::11]]
+
+# Nothing here is a part of a laying of any book.
+NO_PUTS = ANYTHING + [
+    0, 1, (0, 1, "red"), (0, 0, 1), (0, 0, 1, "red", "red"), (0, (0, 1, "red")), [0, 0, 1, "red"], ((0, 0, 1, "red"),),
+    (0, 1, 0, "red"), (0, LAST, LAST - 1, "red"), (0, 0, 1, None), (None, 0, 1, "red"), ("red", 0, 0, 1), (0, "red", 0, 1),
+    "0 0 1 red", {0: 0, 1: 0, 2: 1, 3: "red"}, (0, None, 1, "red"), (0, 0, None, "red"),
+] + [(thing, 0, 1, "red") for thing in ANYTHING] \
+  + [(0,) + thing for thing in NEAR_STROKES if isinstance(thing, tuple)]
+
+# Nothing here is a laying of any book.
+NO_LAYINGS = [thing for thing in ANYTHING if thing != ()] + [
+    [], [(0, 0, 1, "red")], (0, 0, 1, "red"), {0: (0, 0, 1, "red")}, ((0, 0, 1, "red"), ()), (((0, 0, 1, "red"),),), "red",
+    ((0, 0, 1, "red"), [0, 0, 1, "red"]), ((1, 0, 1, "red"), (0, 0, 1, "red")), ((0, 0, 1, "a"), (1, 0, 1, "a"), (0, 0, 1, "a")),
+] + [(thing,) for thing in NO_PUTS] + [((0, 0, 1, "red"), thing) for thing in NO_PUTS[::3]]
+
+PRICES = [
+    {}, {"red": 1}, {"red": 999}, {"a": 1, "abcdefgh": 999, "zz": 500}, {"red": 7, "blue": 7}, {"z" * many: many for many in range(1, 9)},
+]
+
+# Nothing here is prices.
+NO_PRICES = [thing for thing in ANYTHING if thing != {}] + [
+    {"red": 0}, {"red": -1}, {"red": 1000}, {"red": FORTY}, {"red": -FORTY}, {"red": 1, "blue": 0}, {"red": 1, "blue": 1000},
+    {"red": True}, {"red": False}, {"red": None}, {"red": "1"}, {"red": [1]}, {"red": (1,)}, {"red": {}}, {"": 1}, {"Red": 1},
+    {"redredred": 1}, {"red1": 1}, {"red ": 1}, {0: 1}, {1: 1}, {7: 7}, {"red": 1, 0: 1}, {"red": 1, "R": 1}, {FORTY: 1},
+    {"\u00e9": 1}, {"-": 1}, [("red", 1)], (("red", 1),), ["red", 1], "red", ("red", 1), [], (), 0, 1, None, b"", "",
+] + [{"red": thing} for thing in ANYTHING] \
+  + [{"blue": 3, thing: 3} for thing in NO_COLOURS if isinstance(thing, (str, int)) and not isinstance(thing, bool)]
