@@ -114,10 +114,11 @@ def all_tasks(ground):
         begin = first_slot(over)
         some = []
         for e, slots in ground.ends(p, task):
-            most = known.get((p, e), ground.many_slots)
-            some += [(p + 1, e, (slot, ground.wants[p])) for slot in slots if begin <= slot < most]
             some.append((e, j, over))
-            known[(p, e)] = min(begin, most)
+            most = known.get((p, e), ground.many_slots)
+            if begin < most:
+                some += [(p + 1, e, (slot, ground.wants[p])) for slot in slots if begin <= slot < most]
+                known[(p, e)] = begin
         for other in some:
             if other not in found:
                 found[other] = ground.first_wrong(other)

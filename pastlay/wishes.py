@@ -2,8 +2,8 @@
 
 from pastlay.errors import BadLook, BadWish, NoSlot
 from pastlay.looks import are_looks, shown
-from pastlay.seeing import colours, picture
-from pastlay.shapes import both, is_colour, is_from_to, is_stretch, joined, rest
+from pastlay.seeing import colours
+from pastlay.shapes import is_colour, is_from_to, is_stretch, joined, rest
 
 MOST_STRETCHES = 12
 

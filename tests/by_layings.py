@@ -284,3 +284,25 @@ def drawn(seed, many, places=5, strokes=4, stretches=4, looks=3, colours=("a", "
         book = [drawn_stretch(chance, some) + (chance.choice(colours),) for _ in range(length)]
         yield (book, drawn_wish(chance, some, colours + (None,), stretches), drawn_looks(chance, some, length, looks),
                drawn_laying(chance, some, colours, length, most))
+
+
+def parted(strokes, wish, first, second):
+    """Whether a firm place between two places is bare or has a giver no greater than the greater one of theirs."""
+    most = max((-1 if giver is None else giver) for giver in
+               (by_place.giver_at(strokes, first), by_place.giver_at(strokes, second)))
+    places = [place for place in edges_of(strokes, wish) + [first + 1] if first < place < second]
+    return any(wished_at(wish, place) is None and is_under(by_place.giver_at(strokes, place), most + 1)
+               for place in places)
+
+
+def are_bars(strokes, wish, places):
+    """Whether these places are bars: the wish tells one colour alone."""
+    if any(wrong_at(strokes, wish, place) is None for place in places):
+        return False
+    return all(first < second and parted(strokes, wish, first, second)
+               for first, second in itertools.combinations(places, 2))
+
+
+def one_colour(wish, colour="a"):
+    """The same stretches with this colour in the place of each."""
+    return tuple((low, high, None if told is None else colour) for low, high, told in wish)

@@ -31,14 +31,24 @@ FUNCTIONS = {
     "least": {
         "runs": "book wish * looks", "table": "book wish prices * looks", "least": "book wish prices * looks",
     },
+    "single": {"fewest": "book wish", "bars": "book wish", "are_bars": "book wish thing"},
+    "papers": {"paper": "book wish prices * looks", "is_paper": "book wish prices thing bar * looks"},
 }
 METHODS = {
     "Book": {
         "__init__": "self strokes", "put": "self slot stroke", "take": "self number", "strokes": "self", "copy": "self",
         "__len__": "self", "__eq__": "self other", "__repr__": "self", "__str__": "self",
     },
+    "House": {
+        "__init__": "self", "build": "self name", "paint": "self name stroke", "look": "self name low high",
+        "wish": "self name wish prices", "strip": "self name number", "drop": "self name", "lay": "self name hand wish",
+        "withdraw": "self name hand", "grant": "self name prices", "mark": "self name", "back": "self name",
+        "batch": "self deeds", "walls_now": "self", "book_now": "self name", "looks_now": "self name",
+        "open_now": "self name", "spent_now": "self name", "log_now": "self", "copy": "self",
+    },
+    "Desk": {"__init__": "self", "say": "self row"},
 }
-CLASSES = {"books": ["Book"]}
+CLASSES = {"books": ["Book"], "house": ["House"], "desk": ["Desk"]}
 NOT_CALLED_SO = ["register", "mro", "elements", "open", "input", "law", "version_info", "with_traceback", "add_note"]
 
 
